@@ -115,10 +115,12 @@ func MixCurves(c, d Curve, share float32) Curve {
 }
 
 // SumOfCurve returns the sum of all numbers.
-func SumOfCurve(c Curve) float32 {
-	// Beginning with the first number instead of 0 keeps the sign of a sum of only -0.
-	sum := c[0]
-	for _, a := range c[1:] {
+func SumOfCurve(c Curve) float32 { return sumOfNumbers(c[:]) }
+
+// sumOfNumbers begins with the first number instead of 0, which keeps the sign of a sum of only -0.
+func sumOfNumbers(list []float32) float32 {
+	sum := list[0]
+	for _, a := range list[1:] {
 		sum += a
 	}
 	return sum
